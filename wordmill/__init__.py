@@ -1,0 +1,1 @@
+"""A processor for nested procedures, decimal and long numbers."""

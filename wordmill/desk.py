@@ -1,0 +1,43 @@
+"""The calls: lists of whole numbers in, one list of whole numbers out."""
+
+from wordmill.bits import did_bits
+from wordmill.decimals import did_decimal
+from wordmill.flags import Flags
+from wordmill.products import did_product
+from wordmill.rows import add_row
+from wordmill.shifts import did_shift
+from wordmill.step import Step
+from wordmill.stops import NoDigits, NoInstruction, NoQuotient
+from wordmill.sums import did_sum
+
+
+def perform(step):
+    if did_sum(step) or did_shift(step) or did_product(step) or did_decimal(step) or did_bits(step):
+        return
+    raise NoInstruction()
+
+
+def do(insn, regs, flags):
+    """0, 16, the registers, 1 and the flags; or 3, 5 or 6 alone."""
+    regs_then = list(regs)
+    flags_then = Flags(flags[0])
+    try:
+        perform(Step(insn[0], regs_then, flags_then))
+    except NoInstruction:
+        return [3]
+    except NoQuotient:
+        return [5]
+    except NoDigits:
+        return [6]
+    return [0, 16] + regs_then + [1, flags_then.word()]
+
+
+def told_rows(z, y, word):
+    return [0, len(z)] + z + [len(y)] + y + [1, word]
+
+
+def add(n, z, empty, x, flags, bare):
+    """0, the row z + x + C with its length, a row of none, 1 and the flags."""
+    flags_then = Flags(flags[0])
+    row = add_row(n[0], z, x, flags_then)
+    return told_rows(row, [], flags_then.word())
