@@ -8,6 +8,7 @@ from wordmill import desk
 C, P, A, Z, S, D, O = 1, 4, 16, 64, 128, 1024, 2048
 ALL = C + P + A + Z + S + D + O
 WORD = 2**64 - 1
+TOP = 2**63
 HIGH = 0xAAAAAAAAAAAAAAAA
 
 DONE = list(range(1, 4)) + list(range(5, 38)) + [40, 41] + list(range(47, 84))
@@ -46,6 +47,11 @@ def edges(k):
     return sorted({value % (1 << k) for value in near})
 
 
+def any_digits(source):
+    """A word of sixteen digits."""
+    return int("".join(source.choice("0123456789") for _ in range(16)), 16)
+
+
 def any_word(source):
     """A word that is often near an edge, in its low bits or as a whole."""
     kind = source.randrange(5)
@@ -57,8 +63,23 @@ def any_word(source):
         k = source.choice((8, 16, 32))
         return (source.getrandbits(64 - k) << k) | source.choice(edges(k))
     if kind == 3:
-        return int("".join(source.choice("0123456789") for _ in range(16)), 16)
+        return any_digits(source)
     return source.getrandbits(source.randrange(1, 65))
+
+
+def whole(row):
+    """The number that a row of words says."""
+    return sum(value << (64 * place) for place, value in enumerate(row))
+
+
+def words(number, n):
+    """The row of n words that says a number, cut to it."""
+    return [(number >> (64 * place)) & WORD for place in range(n)]
+
+
+def signed(number, n):
+    """The signed number that n words stand for."""
+    return number - (1 << (64 * n)) if number >> (64 * n - 1) else number
 
 
 def steady(seed):
@@ -97,3 +118,20 @@ class DeskCase(unittest.TestCase):
 
     def stops(self, number, regs, why, flags=0):
         self.assertEqual(desk.do([number], regs, [flags]), [why])
+
+
+class RowCase(unittest.TestCase):
+    """Checks that hold for every call."""
+
+    def check_call(self, call, given, answer):
+        """By names and by places, nothing handed in is changed, nothing is kept, all are whole numbers."""
+        fixed = {name: Fixed(value) for name, value in given.items()}
+        first = call(**fixed)
+        self.assertEqual(first, answer)
+        self.assertIs(type(first), list)
+        self.assertEqual({type(value) for value in first}, {int})
+        self.assertEqual(fixed, given)
+        for place in range(len(first)):
+            first[place] = 77
+        self.assertEqual(call(*fixed.values()), answer)
+        self.assertEqual(fixed, given)

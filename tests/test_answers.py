@@ -76,6 +76,10 @@ class Answers(DeskCase):
         desk.do([insn(35)], registers(r0=5), [ALL])
         self.assertEqual(desk.do([insn(8)], registers(), [1]), first)
 
+    def test_names_of_what_is_handed_in(self):
+        answer = desk.do(insn=[31], regs=[0] * 16, flags=[1])
+        self.assertEqual(answer, [0, 16] + [0] * 16 + [1, 0])
+
     def test_the_answer_is_a_list_of_its_own(self):
         regs = registers()
         answer = desk.do([insn(1)], regs, [0])

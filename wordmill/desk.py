@@ -4,7 +4,7 @@ from wordmill.bits import did_bits
 from wordmill.decimals import did_decimal
 from wordmill.flags import Flags
 from wordmill.products import did_product
-from wordmill.rows import add_row
+from wordmill.rows import add_row, decimal_row, sub_row
 from wordmill.shifts import did_shift
 from wordmill.step import Step
 from wordmill.stops import NoDigits, NoInstruction, NoQuotient
@@ -40,4 +40,21 @@ def add(n, z, empty, x, flags, bare):
     """0, the row z + x + C with its length, a row of none, 1 and the flags."""
     flags_then = Flags(flags[0])
     row = add_row(n[0], z, x, flags_then)
+    return told_rows(row, [], flags_then.word())
+
+
+def sub(n, z, empty, x, flags, bare):
+    """0, the row z - x - C with its length, a row of none, 1 and the flags."""
+    flags_then = Flags(flags[0])
+    row = sub_row(n[0], z, x, flags_then)
+    return told_rows(row, [], flags_then.word())
+
+
+def decimal(n, z, empty, x, flags, bare):
+    """0, the row z + x + C of digits with its length, a row of none, 1 and the flags; or 6 alone."""
+    flags_then = Flags(flags[0])
+    try:
+        row = decimal_row(n[0], z, x, flags_then)
+    except NoDigits:
+        return [6]
     return told_rows(row, [], flags_then.word())

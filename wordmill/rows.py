@@ -1,25 +1,69 @@
 """The work on rows of words, the lowest first."""
 
+from wordmill.decimals import SIXTEEN_DIGITS, digits_number, number_digits
 from wordmill.words import bit, cut
 
 
-def add_row(n, z, x, flags):
-    """z + x + C as a new row of n words; flags are changed in place."""
-    row = []
-    carry = flags.carry
+def sum_words(n, z, x, carry):
+    """z + x + carry: n words, and above them what passes."""
+    words = []
+    passes = carry
     for place in range(n):
-        whole = z[place] + x[place] + carry
-        row.append(cut(whole, 64))
-        carry = whole >> 64
-    # like signs that give the other sign: only then is the signed sum another
-    turned = (z[n - 1] ^ row[n - 1]) & (x[n - 1] ^ row[n - 1])
-    flags.tell_rest(carry, turned >> 63, 0)
-    tell_row(n, row, flags)
-    return row
+        whole = z[place] + x[place] + passes
+        words.append(cut(whole, 64))
+        passes = whole >> 64
+    return words + [passes]
 
 
-def tell_row(n, row, flags):
-    """S and Z by the whole row."""
+def difference_words(n, z, x, borrow):
+    """z - x - borrow: n words, and above them what is borrowed."""
+    words = []
+    passes = borrow
+    for place in range(n):
+        whole = z[place] - x[place] - passes
+        words.append(cut(whole, 64))
+        passes = bit(whole < 0)
+    return words + [passes]
+
+
+def digit_words(n, z, x, carry):
+    """z + x + carry as digits: n words, and above them what passes."""
+    words = []
+    passes = carry
+    for place in range(n):
+        whole = digits_number(z[place]) + digits_number(x[place]) + passes
+        words.append(number_digits(whole % SIXTEEN_DIGITS))
+        passes = whole // SIXTEEN_DIGITS
+    return words + [passes]
+
+
+def tell_row(n, words, overflow, flags):
+    """All flags but D, by a row of n words and what passes above it; answers the row."""
+    row = words[:n]
     flags.sign = row[n - 1] >> 63
     flags.zero = bit(not any(row))
     flags.parity = 0
+    flags.tell_rest(words[n], overflow, 0)
+    return row
+
+
+def add_row(n, z, x, flags):
+    """z + x + C as a new row; flags are changed in place."""
+    words = sum_words(n, z, x, flags.carry)
+    top = words[n - 1]
+    # like signs that give the other sign: only then is the signed sum another
+    turned = (z[n - 1] ^ top) & (x[n - 1] ^ top)
+    return tell_row(n, words, turned >> 63, flags)
+
+
+def sub_row(n, z, x, flags):
+    """z - x - C as a new row; flags are changed in place."""
+    words = difference_words(n, z, x, flags.carry)
+    # unlike signs that don't give z's: only then is the signed difference another
+    turned = (z[n - 1] ^ x[n - 1]) & (z[n - 1] ^ words[n - 1])
+    return tell_row(n, words, turned >> 63, flags)
+
+
+def decimal_row(n, z, x, flags):
+    """z + x + C as a new row of digits; flags are changed in place."""
+    return tell_row(n, digit_words(n, z, x, flags.carry), 0, flags)

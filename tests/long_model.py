@@ -1,0 +1,52 @@
+"""A second telling of the calls on rows, by long numbers, where the program goes word by word.
+
+Each answers z's row, y's row and the word.
+"""
+
+from helpers import C, D, O, S, Z, signed, whole, words
+
+
+def tell(n, exact, exact_signed, flags):
+    """The row and the flags of a sum or difference that is told exactly."""
+    result = exact % (1 << (64 * n))
+    told = flags & D
+    told += C * (exact != result)
+    told += O * (exact_signed != signed(result, n))
+    told += S * (result >> (64 * n - 1))
+    told += Z * (result == 0)
+    return words(result, n), [], told
+
+
+def add(z, x, flags):
+    n, carry = len(z), flags & 1
+    exact_signed = signed(whole(z), n) + signed(whole(x), n) + carry
+    return tell(n, whole(z) + whole(x) + carry, exact_signed, flags)
+
+
+def sub(z, x, flags):
+    n, borrow = len(z), flags & 1
+    exact_signed = signed(whole(z), n) - signed(whole(x), n) - borrow
+    return tell(n, whole(z) - whole(x) - borrow, exact_signed, flags)
+
+
+def decimal(z, x, flags):
+    """None where one of the digits is none."""
+    n = len(z)
+    texts = [f"{whole(row):0{16 * n}x}" for row in (z, x)]
+    if not all(text.isdigit() for text in texts):
+        return None
+    carry, digits = flags & 1, ""
+    for one, other in zip(reversed(texts[0]), reversed(texts[1])):
+        count = int(one) + int(other) + carry
+        digits = str(count % 10) + digits
+        carry = count // 10
+    told = (flags & D) + C * carry + S * (digits[0] in "89") + Z * (set(digits) == {"0"})
+    return words(int(digits, 16), n), [], told
+
+
+def answer(told):
+    """The list that a call gives back for it."""
+    if told is None:
+        return [6]
+    z, y, word = told
+    return [0, len(z)] + z + [len(y)] + y + [1, word]
