@@ -3,7 +3,7 @@
 Each answers z's row, y's row and the word.
 """
 
-from helpers import C, D, O, S, Z, signed, whole, words
+from helpers import ALL, C, D, O, S, Z, signed, whole, words
 
 
 def tell(n, exact, exact_signed, flags):
@@ -42,6 +42,19 @@ def decimal(z, x, flags):
         carry = count // 10
     told = (flags & D) + C * carry + S * (digits[0] in "89") + Z * (set(digits) == {"0"})
     return words(int(digits, 16), n), [], told
+
+
+def order(z, x, flags):
+    return [], [], sub(z, x, flags & ~C)[2]
+
+
+def two(z, y, x, flags):
+    n = len(z)
+    first = whole(z) + whole(x) + (flags & C != 0)
+    other = whole(y) + whole(x) + (flags & O != 0)
+    told = flags & ALL & ~C & ~O
+    told += C * (first >> (64 * n)) + O * (other >> (64 * n))
+    return words(first, n), words(other, n), told
 
 
 def answer(told):

@@ -4,7 +4,7 @@ from wordmill.bits import did_bits
 from wordmill.decimals import did_decimal
 from wordmill.flags import Flags
 from wordmill.products import did_product
-from wordmill.rows import add_row, decimal_row, sub_row
+from wordmill.rows import add_row, decimal_row, order_rows, sub_row, two_rows
 from wordmill.shifts import did_shift
 from wordmill.step import Step
 from wordmill.stops import NoDigits, NoInstruction, NoQuotient
@@ -58,3 +58,17 @@ def decimal(n, z, empty, x, flags, bare):
     except NoDigits:
         return [6]
     return told_rows(row, [], flags_then.word())
+
+
+def order(n, z, empty, x, flags, bare):
+    """0, two rows of none, 1 and the flags of z - x."""
+    flags_then = Flags(flags[0])
+    order_rows(n[0], z, x, flags_then)
+    return told_rows([], [], flags_then.word())
+
+
+def two(n, z, y, x, flags, bare):
+    """0, the rows z + x + C and y + x + O with their lengths, 1 and the flags."""
+    flags_then = Flags(flags[0])
+    rows = two_rows(n[0], z, y, x, flags_then)
+    return told_rows(rows[:n[0]], rows[n[0]:], flags_then.word())

@@ -67,3 +67,18 @@ def sub_row(n, z, x, flags):
 def decimal_row(n, z, x, flags):
     """z + x + C as a new row of digits; flags are changed in place."""
     return tell_row(n, digit_words(n, z, x, flags.carry), 0, flags)
+
+
+def order_rows(n, z, x, flags):
+    """The flags of z - x, with C taken as clear; they are changed in place."""
+    flags.carry = 0
+    sub_row(n, z, x, flags)
+
+
+def two_rows(n, z, y, x, flags):
+    """z + x + C and y + x + O as two new rows, one behind the other; flags are changed in place."""
+    z_words = sum_words(n, z, x, flags.carry)
+    y_words = sum_words(n, y, x, flags.overflow)
+    flags.carry = z_words[n]
+    flags.overflow = y_words[n]
+    return z_words[:n] + y_words[:n]
