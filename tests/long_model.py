@@ -57,6 +57,16 @@ def two(z, y, x, flags):
     return words(first, n), words(other, n), told
 
 
+def more(z, x, by, carry):
+    n = len(z)
+    exact = whole(z) + whole(x) * by + carry
+    return words(exact, n), [], exact >> (64 * n)
+
+
+def product(y, x):
+    return words(whole(x) * whole(y), 2 * len(x)), [], 0
+
+
 def answer(told):
     """The list that a call gives back for it."""
     if told is None:

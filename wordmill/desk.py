@@ -4,7 +4,7 @@ from wordmill.bits import did_bits
 from wordmill.decimals import did_decimal
 from wordmill.flags import Flags
 from wordmill.products import did_product
-from wordmill.rows import add_row, decimal_row, order_rows, sub_row, two_rows
+from wordmill.rows import add_row, decimal_row, more_words, order_rows, product_row, sub_row, two_rows
 from wordmill.shifts import did_shift
 from wordmill.step import Step
 from wordmill.stops import NoDigits, NoInstruction, NoQuotient
@@ -72,3 +72,14 @@ def two(n, z, y, x, flags, bare):
     flags_then = Flags(flags[0])
     rows = two_rows(n[0], z, y, x, flags_then)
     return told_rows(rows[:n[0]], rows[n[0]:], flags_then.word())
+
+
+def more(n, z, empty, x, by, carry):
+    """0, the row z + x * by + carry with its length, a row of none, 1 and what passes."""
+    words = more_words(n[0], z, x, by[0], carry[0])
+    return told_rows(words[:n[0]], [], words[n[0]])
+
+
+def product(n, empty, y, x, bare, last):
+    """0, the row x * y of 2 n words with its length, a row of none, 1 and 0."""
+    return told_rows(product_row(n[0], y, x), [], 0)

@@ -82,3 +82,26 @@ def two_rows(n, z, y, x, flags):
     flags.carry = z_words[n]
     flags.overflow = y_words[n]
     return z_words[:n] + y_words[:n]
+
+
+def more_words(n, z, x, by, carry):
+    """z + x * by + carry: n words, and above them what passes."""
+    words = []
+    passes = carry
+    for place in range(n):
+        whole = z[place] + x[place] * by + passes
+        words.append(cut(whole, 64))
+        passes = whole >> 64
+    return words + [passes]
+
+
+def product_row(n, y, x):
+    """x * y as a new row of 2 n words."""
+    done = []
+    rest = [0] * n
+    for place in range(n):
+        # with each word of y, the lowest word of what is there so far is done
+        words = more_words(n, rest, x, y[place], 0)
+        done.append(words[0])
+        rest = words[1:]
+    return done + rest
