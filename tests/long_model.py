@@ -67,6 +67,19 @@ def product(y, x):
     return words(whole(x) * whole(y), 2 * len(x)), [], 0
 
 
+def left(z, by, bits):
+    n = len(z)
+    text = f"{whole(z):0{64 * n}b}" + f"{bits:064b}"[:by]
+    return words(int(text[by:], 2), n), [], int("0" + text[:by], 2)
+
+
+def right(z, by, bits):
+    n = len(z)
+    text = f"{bits:064b}"[64 - by:] + f"{whole(z):0{64 * n}b}"
+    went = text[64 * n:] + "0" * (64 - by)
+    return words(int(text[:64 * n], 2), n), [], int(went, 2)
+
+
 def answer(told):
     """The list that a call gives back for it."""
     if told is None:

@@ -4,7 +4,17 @@ from wordmill.bits import did_bits
 from wordmill.decimals import did_decimal
 from wordmill.flags import Flags
 from wordmill.products import did_product
-from wordmill.rows import add_row, decimal_row, more_words, order_rows, product_row, sub_row, two_rows
+from wordmill.rows import (
+    add_row,
+    decimal_row,
+    left_words,
+    more_words,
+    order_rows,
+    product_row,
+    right_words,
+    sub_row,
+    two_rows,
+)
 from wordmill.shifts import did_shift
 from wordmill.step import Step
 from wordmill.stops import NoDigits, NoInstruction, NoQuotient
@@ -83,3 +93,15 @@ def more(n, z, empty, x, by, carry):
 def product(n, empty, y, x, bare, last):
     """0, the row x * y of 2 n words with its length, a row of none, 1 and 0."""
     return told_rows(product_row(n[0], y, x), [], 0)
+
+
+def left(n, z, empty, bare, by, bits):
+    """0, the row z by 2 ** by with its length, a row of none, 1 and what passes."""
+    words = left_words(n[0], z, by[0], bits[0])
+    return told_rows(words[:n[0]], [], words[n[0]])
+
+
+def right(n, z, empty, bare, by, bits):
+    """0, the row z by so many bits to the right with its length, a row of none, 1 and those that went."""
+    words = right_words(n[0], z, by[0], bits[0])
+    return told_rows(words[1:], [], words[0])

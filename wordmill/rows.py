@@ -105,3 +105,23 @@ def product_row(n, y, x):
         done.append(words[0])
         rest = words[1:]
     return done + rest
+
+
+def left_words(n, z, by, bits):
+    """z by 2 ** by, bits' highest below: n words, and above them what passes."""
+    words = []
+    coming = bits >> (64 - by)
+    for place in range(n):
+        words.append(cut(z[place] << by, 64) | coming)
+        coming = z[place] >> (64 - by)
+    return words + [coming]
+
+
+def right_words(n, z, by, bits):
+    """Those that went, as a word's highest bits, and above that word n words: z to the right, bits' lowest above."""
+    words = []
+    staying = 0
+    for word in z[:n] + [bits]:
+        words.append(cut(word << (64 - by), 64) | staying)
+        staying = word >> by
+    return words
