@@ -135,3 +135,87 @@ class RowCase(unittest.TestCase):
             first[place] = 77
         self.assertEqual(call(*fixed.values()), answer)
         self.assertEqual(fixed, given)
+
+
+PLACE = 0x4000
+
+
+def eight(number):
+    """A number's eight bytes, the lowest first."""
+    return list((number % 2**64).to_bytes(8, "little"))
+
+
+def row_bytes(row):
+    return [byte for value in row for byte in eight(value)]
+
+
+def code_bytes(code):
+    """Instructions one behind another."""
+    return row_bytes(code)
+
+
+def filled(data):
+    """All of the memory, with the bytes of data at their places."""
+    cells = [0] * 65536
+    for place, values in data.items():
+        cells[place:place + len(values)] = list(values)
+    assert len(cells) == 65536
+    return cells
+
+
+def handed(data):
+    """The memory as run takes it: a place, and the bytes from there on."""
+    begin = min(data)
+    end = max(place + len(values) for place, values in data.items())
+    assert end - begin < 58000
+    return [begin] + filled(data)[begin:end]
+
+
+class Ran:
+    """run's answer, taken apart."""
+
+    def __init__(self, case, answer):
+        case.assertEqual([answer[1], answer[3], answer[20], answer[23]], [1, 16, 2, len(answer) - 24])
+        self.done, self.why = answer[0], answer[2]
+        self.regs = answer[4:20]
+        self.place, self.flags = answer[21], answer[22]
+        self.cells = answer[24:]
+
+
+class RunCase(unittest.TestCase):
+    """Checks on run's answers; the instructions stand at PLACE unless another place is told."""
+
+    def ran(self, code, regs, flags=0, data=None, steps=None, place=PLACE):
+        steps = len(code) if steps is None else steps
+        data = dict(data or {})
+        data[place] = code_bytes(code)
+        return Ran(self, desk.run([steps], regs, [place, flags], handed(data), [0, 65536]))
+
+    def same_cells(self, cells, wanted, code):
+        if cells != wanted:
+            other = [(hex(k), cells[k], wanted[k]) for k in range(65536) if cells[k] != wanted[k]]
+            self.fail(f"{code}: bytes are others than wanted: {other[:20]}")
+
+    def does(self, code, regs, flags=0, data=None, changed=None, after=None, stored=None, onward=None, place=PLACE):
+        """One instruction is done: just these registers and bytes are others, and the flags as told."""
+        then = self.ran([code], regs, flags, data, 1, place)
+        wanted = list(regs)
+        for number, value in (changed or {}).items():
+            wanted[number] = value
+        self.assertEqual([then.done, then.why], [1, 0], hex(code))
+        self.assertEqual([hex(value) for value in then.regs], [hex(value) for value in wanted], hex(code))
+        self.assertEqual(then.flags, flags & ALL if after is None else after, hex(code))
+        self.assertEqual(hex(then.place), hex(place + 8 if onward is None else onward))
+        cells = filled({**(data or {}), place: code_bytes([code])})
+        for at, values in (stored or {}).items():
+            cells[at:at + len(values)] = list(values)
+        self.same_cells(then.cells, cells, hex(code))
+
+    def halts(self, code, regs, why, flags=0, data=None, place=PLACE):
+        """The instruction stops the machine and does nothing else."""
+        for before in (flags, flags ^ ALL):
+            then = self.ran([code], regs, before, data, 3, place)
+            self.assertEqual([then.done, then.why], [0, why], hex(code))
+            self.assertEqual([hex(value) for value in then.regs], [hex(value) for value in regs], hex(code))
+            self.assertEqual([then.place, then.flags], [place, before & ALL], hex(code))
+            self.same_cells(then.cells, filled({**(data or {}), place: code_bytes([code])}), hex(code))

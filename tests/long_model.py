@@ -80,6 +80,13 @@ def right(z, by, bits):
     return words(int(text[:64 * n], 2), n), [], int(went, 2)
 
 
+def digits(low, high, x, y):
+    pairs = [divmod((one % 2**52) * (other % 2**52), 2**52) for one, other in zip(x, y)]
+    lows = [(value + pair[1]) % 2**64 for value, pair in zip(low, pairs)]
+    highs = [(value + pair[0]) % 2**64 for value, pair in zip(high, pairs)]
+    return lows, highs, 0
+
+
 def answer(told):
     """The list that a call gives back for it."""
     if told is None:

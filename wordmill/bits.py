@@ -1,6 +1,6 @@
 """Bits: operations 62 to 83."""
 
-from wordmill.words import bit, cut, signed, turned_left
+from wordmill.words import bit, cut, signed, turned_bytes, turned_left
 
 
 def probe(step):
@@ -132,11 +132,7 @@ def gather(step):
 
 
 def turn_bytes(step):
-    rest = step.low(step.a)
-    result = 0
-    for place in range(0, step.k, 8):
-        result = (result << 8) | ((rest >> place) & 255)
-    step.put(step.a, result)
+    step.put(step.a, turned_bytes(step.low(step.a), step.k))
 
 
 def turn_right_by_z(step):

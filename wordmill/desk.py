@@ -1,12 +1,12 @@
 """The calls: lists of whole numbers in, one list of whole numbers out."""
 
-from wordmill.bits import did_bits
-from wordmill.decimals import did_decimal
 from wordmill.flags import Flags
-from wordmill.products import did_product
+from wordmill.machine import Machine
+from wordmill.memory import Memory
 from wordmill.rows import (
     add_row,
     decimal_row,
+    digit_rows,
     left_words,
     more_words,
     order_rows,
@@ -15,16 +15,9 @@ from wordmill.rows import (
     sub_row,
     two_rows,
 )
-from wordmill.shifts import did_shift
 from wordmill.step import Step
 from wordmill.stops import NoDigits, NoInstruction, NoQuotient
-from wordmill.sums import did_sum
-
-
-def perform(step):
-    if did_sum(step) or did_shift(step) or did_product(step) or did_decimal(step) or did_bits(step):
-        return
-    raise NoInstruction()
+from wordmill.work import keep_going, perform
 
 
 def do(insn, regs, flags):
@@ -105,3 +98,19 @@ def right(n, z, empty, bare, by, bits):
     """0, the row z by so many bits to the right with its length, a row of none, 1 and those that went."""
     words = right_words(n[0], z, by[0], bits[0])
     return told_rows(words[1:], [], words[0])
+
+
+def digits(n, low, high, x, y, bare):
+    """0, the rows low and high as they are then with their lengths, 1 and 0."""
+    rows = digit_rows(n[0], low, high, x, y)
+    return told_rows(rows[:n[0]], rows[n[0]:], 0)
+
+
+def run(steps, regs, begin, memory, told):
+    """How many steps were done, 1 and why it ended, 16 and the registers, 2, the place and the flags, the bytes."""
+    machine = Machine(list(regs), begin[0], Flags(begin[1]), Memory(memory[0], memory[1:]))
+    why = keep_going(machine, steps[0])
+    count = told[1]
+    cells = machine.memory.cells[told[0]:told[0] + count]
+    answer = [machine.done, 1, why, 16] + machine.regs
+    return answer + [2, machine.place, machine.flags.word(), count] + cells

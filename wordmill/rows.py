@@ -125,3 +125,14 @@ def right_words(n, z, by, bits):
         words.append(cut(word << (64 - by), 64) | staying)
         staying = word >> by
     return words
+
+
+def digit_rows(n, low, high, x, y):
+    """Products of 52 bits each: low with their lower 52 bits and high with the rest, one row behind the other."""
+    lows = []
+    highs = []
+    for place in range(n):
+        whole = cut(x[place], 52) * cut(y[place], 52)
+        lows.append(cut(low[place] + cut(whole, 52), 64))
+        highs.append(cut(high[place] + (whole >> 52), 64))
+    return lows + highs

@@ -27,3 +27,11 @@ def even_ones(byte):
 def turned_left(value, n, k):
     """k bits turned left by n, from 0 to k; by k - n it is right by n."""
     return cut((value << n) | (value >> (k - n)), k)
+
+
+def turned_bytes(value, k):
+    """k bits, their bytes turned round."""
+    result = 0
+    for place in range(0, k, 8):
+        result = (result << 8) | ((value >> place) & 255)
+    return result
