@@ -89,7 +89,8 @@ class ByHand(RunCase):
 
     def test_digits(self):
         low, high = list(range(8)), [WORD] * 8
-        data = {AT_A: row_bytes(low), AT_D: row_bytes(high), AT_B: row_bytes([2**51 + 2**60] * 8), AT_C: row_bytes([3] * 8)}
+        data = {AT_A: row_bytes(low), AT_D: row_bytes(high)}
+        data.update({AT_B: row_bytes([2**51 + 2**60] * 8), AT_C: row_bytes([3] * 8)})
         stored = {AT_A: row_bytes([2**51 + k for k in range(8)]), AT_D: row_bytes([0] * 8)}
         for form in range(8):
             for z in (0, 1, 8, 257, -1, 2**31 - 1, -(2**31)):

@@ -61,7 +61,8 @@ class Left(RowCase):
             self.assertEqual(left(ones, by, WORD), [0, 256] + ones + [0, 1, low])
             self.assertEqual(left(ones, by, 0), [0, 256, WORD - low] + ones[1:] + [0, 1, low])
             self.assertEqual(left(none, by, WORD), [0, 256, low] + none[1:] + [0, 1, 0])
-            self.assertEqual(left(none, by, WORD >> by), [0, 256, low & (WORD >> by >> (64 - by))] + none[1:] + [0, 1, 0])
+            part = WORD >> by >> (64 - by)
+            self.assertEqual(left(none, by, WORD >> by), [0, 256, part] + none[1:] + [0, 1, 0])
 
     def test_against_bits_one_by_one(self):
         source = steady(14)

@@ -2,7 +2,7 @@
 
 import unittest
 
-from helpers import ALL, C, D, HIGH, O, P, PLACE, S, WORD, Z, RunCase, eight, insn, registers
+from helpers import ALL, C, D, HIGH, O, P, S, WORD, Z, RunCase, eight, insn, registers
 
 BYTES = [0x11, 0x22, 0x33, 0x44, 0x85, 0x96, 0xA7, 0xB8]
 SIZES = (1, 2, 4, 8)
@@ -77,6 +77,13 @@ class LookUp(RunCase):
                 for flags in (0, ALL):
                     self.does(insn(4, w, w % 2, z=9), regs, flags, data, changed)
 
+    def test_all_of_the_byte_and_no_more(self):
+        for byte in (0, 0x7F, 0x80, 0xFF):
+            for high in (0xAAAAAAAAAAAAAA00, 0x5555555555555500):
+                for low in (0, 0xFF):
+                    regs = registers(r0=high + low, r1=0x5000)
+                    self.does(insn(4), regs, 0, {0x5000 + low: [byte]}, {0: high + byte})
+
     def test_one_register_for_both(self):
         self.does(insn(4, a=1, b=1), registers(r1=0x5021), data={0x5042: [0x77]}, changed={1: 0x5077})
 
@@ -86,6 +93,7 @@ class LookUp(RunCase):
         self.halts(insn(4), registers(r0=6, r1=65530), 4)
         self.halts(insn(4), registers(r0=5, r1=WORD - 5), 4)
         self.halts(insn(4), registers(r0=0, r1=WORD), 4)
+        self.halts(insn(4), registers(r0=0, r1=2**63 + 0x5000), 4)
 
 
 class Stack(RunCase):
@@ -139,12 +147,12 @@ class Stack(RunCase):
             code = insn(op, 3, i, z=44)
             self.does(code, registers(r1=0x123, r15=65536), changed={15: 65528}, stored={65528: eight(number)})
             self.does(code, registers(r1=0x123, r15=8), changed={15: 0}, stored={0: eight(number)})
-            for place in (0, 1, 7, 65537, 65544, 2**63, WORD):
+            for place in (0, 1, 7, 65537, 65544, 2**32 + 0x5008, 2**63, 2**63 + 0x5008, WORD):
                 self.halts(code, registers(r15=place), 4, data={65528: BYTES})
         for op, changed in ((89, {0: LOADED[3]}), (39, {})):
             self.does(insn(op), registers(r15=65528), 0, {65528: BYTES}, {**changed, 15: 65536}, 17 if op == 39 else 0)
             self.does(insn(op), registers(r15=0), 0, {0: BYTES}, {**changed, 15: 8}, 17 if op == 39 else 0)
-            for place in (65529, 65535, 65536, 2**63, WORD - 7, WORD):
+            for place in (65529, 65535, 65536, 2**63, 2**63 + 0x5008, WORD - 7, WORD):
                 self.halts(insn(op), registers(r15=place), 4, data={65528: BYTES})
                 self.halts(insn(op, a=15), registers(r15=place), 4, data={65528: BYTES})
 

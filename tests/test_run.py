@@ -87,7 +87,8 @@ class Memory(unittest.TestCase):
         code = code_bytes([insn(84, b=1), insn(85, a=0, b=2)])
         regs = registers(r1=65528, r2=0)
         answer = run(2, regs, [65512, 0], [65512] + code + [1, 2, 3, 4, 5, 6, 7, 8], [0, 9])
-        self.assertEqual(answer, [2, 1, 0, 16, 0x0807060504030201] + regs[1:] + [2, 65528, 0, 9] + [1, 2, 3, 4, 5, 6, 7, 8, 0])
+        wanted = [0x0807060504030201] + regs[1:]
+        self.assertEqual(answer, [2, 1, 0, 16] + wanted + [2, 65528, 0, 9, 1, 2, 3, 4, 5, 6, 7, 8, 0])
 
 
 class Steps(RunCase):

@@ -22,6 +22,15 @@ def ways():
             yield w, flags, -size if flags & D else size
 
 
+def compared(k):
+    """Two numbers of k bits and the flags of one less the other."""
+    top = 1 << (k - 1)
+    return (
+        (5, 5, P + Z), (5, 3, 0), (3, 5, C + A + S), (0, 1, C + P + A + S), (0x10, 1, P + A),
+        (top, 1, O + A + (0 if k == 8 else P)), (top - 1, top, C + S + O + P),
+    )
+
+
 class Once(RunCase):
     def test_load(self):
         for w, flags, by in ways():
@@ -44,23 +53,14 @@ class Once(RunCase):
     def test_register_0_less_what_is_there(self):
         for w, flags, by in ways():
             k = 8 << w
-            top = 1 << (k - 1)
-            for x, y, told in (
-                (5, 5, P + Z), (5, 3, 0), (3, 5, C + A + S), (0, 1, C + P + A + S), (top, 1, O + A + (0 if k == 8 else P)),
-                (0x10, 1, P + A), (top - 1, top, C + S + O + P),
-            ):
+            for x, y, told in compared(k):
                 regs = regs_for(r0=(HIGH >> k << k) | x)
                 data = {TO: list(y.to_bytes(SIZES[w], "little")) + [0xEE] * 8}
                 self.does(insn(100, w, w % 2, d=0), regs, flags, data, {13: TO + by}, told + (flags & D))
 
     def test_what_is_at_12_less_what_is_at_13(self):
         for w, flags, by in ways():
-            k = 8 << w
-            top = 1 << (k - 1)
-            for x, y, told in (
-                (5, 5, P + Z), (5, 3, 0), (3, 5, C + A + S), (0, 1, C + P + A + S), (top, 1, O + A + (0 if k == 8 else P)),
-                (0x10, 1, P + A), (top - 1, top, C + S + O + P),
-            ):
+            for x, y, told in compared(8 << w):
                 first, other = (list(v.to_bytes(SIZES[w], "little")) for v in (x, y))
                 data = {FROM: first + [1] * 8, TO: other + [0xEE] * 8}
                 changed = {12: FROM + by, 13: TO + by}
@@ -194,14 +194,15 @@ class Stops(RunCase):
             two = {last: [5] + [0] * (size - 1) + [6] + [0] * (size - 1)}
             for count in (3, 9, WORD):
                 low = 6 if w > 1 else (HIGH >> (8 << w) << (8 << w)) | 6
-                led = {11: count - 2, 12: 65536}
-                self.stops_after(insn(97, w, d=1), regs_for(r11=count, r12=last), ALL - D, two, {0: low, **led}, ALL - D, {})
+                led = {0: low, 11: count - 2, 12: 65536}
+                self.stops_after(insn(97, w, d=1), regs_for(r11=count, r12=last), ALL - D, two, led, ALL - D, {})
                 led = {11: count - 2, 13: 65536}
                 nines = int.from_bytes([9] * 8, "little")
                 self.stops_after(insn(98, w, d=1), regs_for(r0=nines, r11=count, r13=last), 0, two, led, 0,
                                  {last: [9] * (2 * size)})
                 led = {11: count - 2, 12: FROM + 2 * size, 13: 65536}
-                self.stops_after(insn(99, w, d=1), regs_for(r11=count, r13=last), ALL - D, {FROM: [7] * 32}, led, ALL - D,
+                sevens = {FROM: [7] * 32}
+                self.stops_after(insn(99, w, d=1), regs_for(r11=count, r13=last), ALL - D, sevens, led, ALL - D,
                                  {last: [7] * (2 * size)})
                 led = {11: count - 2, 12: 65536, 13: TO + 2 * size}
                 self.stops_after(insn(99, w, d=1), regs_for(r11=count, r12=last), 0, two, led, 0, {TO: two[last]})

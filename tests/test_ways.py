@@ -2,7 +2,7 @@
 
 import unittest
 
-from helpers import ALL, C, HIGH, O, P, PLACE, S, WORD, Z, RunCase, code_bytes, eight, insn, registers, row_bytes
+from helpers import ALL, C, O, P, PLACE, S, WORD, Z, RunCase, code_bytes, eight, insn, registers, row_bytes
 from wordmill import desk
 
 NEXT = PLACE + 8
@@ -70,7 +70,8 @@ class Jumps(RunCase):
             self.does(insn(op, d=1, z=-(2**31)), regs, 0, None, {0: 4} if op == 44 else {},
                       onward=(NEXT - 2**31) % 2**64)
             self.does(insn(op, d=1, z=2**31 - 1), regs, 0, None, {0: 4} if op == 44 else {}, onward=NEXT + 2**31 - 1)
-        self.does(insn(90, z=-NEXT - 1), registers(r15=0x5008), 0, None, {15: 0x5000}, None, {0x5000: eight(NEXT)}, WORD)
+        pushed = {0x5000: eight(NEXT)}
+        self.does(insn(90, z=-NEXT - 1), registers(r15=0x5008), 0, None, {15: 0x5000}, None, pushed, WORD)
 
     def test_what_is_led_to_is_done_or_not_there(self):
         code = code_bytes([insn(92, z=-16), insn(18)])
@@ -198,7 +199,7 @@ class Frames(RunCase):
         for d in (0, 1, 2, 15):
             words = 8 * (d + 1)
             data = {0x6000 - 160: [5] * 160}
-            for stack in (0, words - 8, words - 1, 65537, 65544, 2**63, WORD):
+            for stack in (0, words - 8, words - 1, 65537, 65544, 2**63, 2**63 + 0x5100, WORD):
                 self.halts(insn(95, d=d, z=8), registers(r14=0x6000, r15=stack), 4, data=data)
             for stack in (words, 65536):
                 pushed = [0x6000] + [0x0505050505050505] * (d - 1) + [stack - 8] * (d > 0)
@@ -208,7 +209,7 @@ class Frames(RunCase):
     def test_what_is_copied_must_be_there(self):
         for d in (2, 3, 15):
             words = 8 * (d - 1)
-            for led in (0, words - 8, words - 1, 65537, 65544, 2**63, WORD):
+            for led in (0, words - 8, words - 1, 65537, 65544, 2**63, 2**63 + 0x6000, WORD):
                 self.halts(insn(95, d=d, z=8), registers(r14=led, r15=0x5100), 4)
             for led in (words, 65536):
                 self.frame(d, 0, 0, {}, [led] + [0] * (d - 1) + [0x50F8], led=led)

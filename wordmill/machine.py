@@ -22,5 +22,5 @@ class Machine:
     def pull(self):
         """The number that is popped."""
         value = self.memory.load(self.regs[15], 8)
-        self.regs[15] = cut(self.regs[15] + 8, 64)
+        self.regs[15] = self.regs[15] + 8
         return value

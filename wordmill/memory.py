@@ -31,7 +31,6 @@ class Memory:
             rest = rest >> 8
 
     def load_row(self, place, n):
-        self.need(place, 8 * n)
         return [self.load(cell, 8) for cell in range(place, place + 8 * n, 8)]
 
     def save_row(self, place, row):

@@ -62,7 +62,7 @@ def jump_to_place(machine, step):
 
 def come_back(machine, step):
     machine.onward = machine.pull()
-    step.regs[15] = cut(step.regs[15] + cut(step.z, 16), 64)
+    step.regs[15] = step.regs[15] + cut(step.z, 16)
 
 
 def need_frame(machine, step):
@@ -90,7 +90,7 @@ def begin_frame(machine, step):
 def end_frame(machine, step):
     frame = step.regs[14]
     step.regs[14] = machine.memory.load(frame, 8)
-    step.regs[15] = cut(frame + 8, 64)
+    step.regs[15] = frame + 8
 
 
 WAYS = {

@@ -11,7 +11,6 @@ from wordmill.stops import Ended, NoBytes, NoDigits, NoInstruction, NoQuotient
 from wordmill.strings import did_string
 from wordmill.sums import did_sum
 from wordmill.ways import did_way
-from wordmill.words import cut
 
 
 def did_on_registers(step):
@@ -30,7 +29,7 @@ def perform(step):
 
 def advance(machine):
     step = Step(machine.memory.load(machine.place, 8), machine.regs, machine.flags)
-    machine.onward = cut(machine.place + 8, 64)
+    machine.onward = machine.place + 8
     if not (did_on_registers(step) or did_on_memory(machine, step)):
         raise NoInstruction()
     machine.place = machine.onward
